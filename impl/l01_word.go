@@ -36,6 +36,11 @@ func WrapWord(n int64) int64 {
 	return int64(wordOf(n))
 }
 
+// isWord is for what must be a word as it comes, where nothing is wrapped.
+func isWord(n int64) bool {
+	return WrapWord(n) == n
+}
+
 func SignedOf(w int64) int64 {
 	return int64(int32(wordOf(w)))
 }
