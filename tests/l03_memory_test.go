@@ -631,8 +631,12 @@ func memoryCalls() []memoryCall {
 
 // roomy is a list with the words and with room behind them, which nothing may write to either.
 func roomy(words []int64) (list, whole []int64) {
-	whole = append(slices.Clone(words), slices.Repeat([]int64{77}, 300)...)
-	return whole[:len(words)], whole
+	return withRoom(words, 77)
+}
+
+func withRoom[T any](things []T, behind T) (list, whole []T) {
+	whole = append(slices.Clone(things), slices.Repeat([]T{behind}, 300)...)
+	return whole[:len(things)], whole
 }
 
 func turnAll(words []int64) {
