@@ -737,7 +737,11 @@ func listsOf(h impl.Hart) [][]int64 {
 // askApart writes into the lists of an answer, one behind the other, and asks that no other one of them is another one then.
 func askApart(t *testing.T, h impl.Hart, what ...any) {
 	t.Helper()
-	lists := listsOf(h)
+	askListsApart(t, listsOf(h), what...)
+}
+
+func askListsApart(t *testing.T, lists [][]int64, what ...any) {
+	t.Helper()
 	for k, list := range lists {
 		kept := cloneLists(lists)
 		turnAll(list)

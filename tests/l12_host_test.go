@@ -1530,16 +1530,7 @@ func turnHost(x impl.Host) {
 // askHostApart writes into the lists of an answer, one behind the other, and asks that no other one of them is another one then; the lists of lists are the last.
 func askHostApart(t *testing.T, x impl.Host, what ...any) {
 	t.Helper()
-	lists := hostLists(x)
-	for k, list := range lists {
-		kept := cloneLists(lists)
-		turnAll(list)
-		for j, other := range lists {
-			if j != k && !slices.Equal(other, kept[j]) {
-				t.Fatalf("%s: two lists of the answer share memory", fmt.Sprint(what...))
-			}
-		}
-	}
+	askListsApart(t, hostLists(x), what...)
 	turnHost(x)
 	clear(x.Policy.Own[:cap(x.Policy.Own)])
 	clear(x.Harts[:cap(x.Harts)])
